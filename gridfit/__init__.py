@@ -1,0 +1,1 @@
+"""Outlines fitted to a grid by small programs: see gridfit.machine.answers."""

@@ -1,0 +1,159 @@
+"""The document's promises, over many programs: 1, 2, 3 and 5."""
+
+import random
+import unittest
+
+from gridfit.machine import answers
+from tests.helper import CALL, function, points, push, setting, shape, size, told, zones
+
+ROUND_POINT, LEAD_Y, LEAD_X = 0x2F, 0x30, 0x31
+OUTLINE = [(13, -7, 1), (200, 55, 0), (321, 400, 1), (-90, 333, 0), (5, 5, 1), (77, -300, 1)]
+
+
+def any_bytes(source, likely):
+    """A program of any bytes, or one that pushes small numbers between likely instructions."""
+    if not likely:
+        return [source.randrange(256) for place in range(source.randrange(60))]
+    code = []
+    for place in range(source.randrange(25)):
+        code += [0xB2] + [source.randrange(6) for number in range(3)] + [source.randrange(256)]
+    return code
+
+
+class Ending(unittest.TestCase):
+    def check_told(self, answer, code, whole_font):
+        if answer[0] == 0:
+            self.assertEqual(answer, [0])
+            return
+        self.assertEqual(answer[0], -5)
+        number, place, whose, byte, count = answer[1:]
+        self.assertIn(number, range(1, 9))
+        self.assertIn(whose, (0, 1))
+        self.assertIn(count, range(5001))
+        self.assertEqual(number == 7, count == 5000 and place < len(whole_font if whose else code))
+        owner = whole_font if whose else code
+        self.assertEqual(byte, owner[place] if place < len(owner) else 0)
+        if place == len(owner):
+            self.assertEqual((number, whose), (4, 1))
+
+    def test_programs_of_any_bytes(self):
+        source = random.Random(7)
+        for turn in range(400):
+            code = any_bytes(source, turn % 2 == 1)
+            whole_font = function(0, any_bytes(source, True)) if turn % 3 == 0 else []
+            begun = setting(dots=9, twilight=4, cells=4, controls=[5, 60, -70, 800], font_code=whole_font)
+            found = told(*begun, size(9, code), shape(OUTLINE, [2, 5], code), points(1))
+            if found[2] != [0]:
+                continue
+            self.check_told(found[4], code, whole_font)
+            self.check_told(found[5], code, whole_font)
+
+    def test_what_fails_leaves_nothing(self):
+        source = random.Random(8)
+        for turn in range(400):
+            wild = any_bytes(source, turn % 4 > 0)
+            begun = setting(dots=9, twilight=4, cells=4, controls=[5, 60, -70, 800], font_code=function(0, []))
+            begun += [shape(OUTLINE, [2, 5], push(0) + [ROUND_POINT])]
+            after = [points(0), points(1), shape(OUTLINE, [2, 5], push(1) + [0xC8, 0x31]), points(1), points(0)]
+            for call in (size(9, wild), shape(OUTLINE, [2, 5], wild)):
+                found = told(*begun, call, *after)
+                if found[5][0] != 0:
+                    self.assertEqual(found[6:], told(*begun, *after)[5:])
+
+
+class TheSame(unittest.TestCase):
+    WILD = (push(0, 9) + [0x42] + push(0, 8) + [0x44] + push(0x08, 1, 1) + [0x73] + push(77) + [0x1A, 0x4E]
+            + push(5) + [0x1D] + push(0) + [0x16] + push(0, 7) + [0x48] + push(1, 0) + [0xF8] + push(1) + [0x2F])
+    READ = (push(0, 0) + [0x43, 0x48] + push(1, 0) + [0x45, 0x48] + push(2, 1) + [0x45, 0x48] + push(3) + [0xD8]
+            + push(4, 0) + [0xFC] + push(0) + [0x10] + push(0) + [0x13] + push(5) + [0x3C])
+
+    def test_whatever_a_shape_did_before(self):
+        begun = setting(dots=9, twilight=2, cells=1, controls=[60, -70], size_code=push(0, 3) + [0x42])
+        asked = [shape(OUTLINE, [5], self.READ), points(0), points(1)]
+        first = told(*begun, *asked)[4:]
+        self.assertEqual(first[0], [0])
+        again = told(*begun, shape(OUTLINE, [5], self.WILD), points(0), *asked, shape([], [], self.WILD), *asked, *asked)
+        self.assertEqual(again[4], [0])
+        self.assertNotEqual(again[5], first[1])
+        self.assertEqual(again[6:9], first)
+        self.assertEqual(again[10:13], first)
+        self.assertEqual(again[13:16], first)
+
+    def test_over_many_programs(self):
+        source = random.Random(9)
+        for turn in range(300):
+            begun = setting(dots=9, twilight=3, cells=3, controls=[60, -70, 5],
+                            font_code=function(0, any_bytes(source, True) if turn % 5 == 0 else [0x59]))
+            if told(*begun)[2] != [0]:
+                continue
+            before = shape(OUTLINE, [2, 5], self.WILD + any_bytes(source, True))
+            asked = [shape(OUTLINE, [2, 5], any_bytes(source, True)), points(0), points(1)]
+            self.assertEqual(told(*begun, before, *asked)[5:6], told(*begun, *asked)[4:5])
+            if told(*begun, *asked)[4] == [0]:
+                self.assertEqual(told(*begun, before, *asked)[5:], told(*begun, *asked)[4:])
+
+    def test_the_list_and_its_answers(self):
+        source = random.Random(10)
+        for turn in range(100):
+            code = any_bytes(source, True)
+            calls = [number for call in setting(dots=9, twilight=3, cells=3, controls=[60, -70, 5], size_code=code)
+                     + [shape(OUTLINE, [2, 5], code), points(0), points(1)] for number in call]
+            before = list(calls)
+            first = answers(calls)
+            self.assertEqual(calls, before)
+            self.assertEqual(answers(calls), first)
+
+
+class OnTheGrid(unittest.TestCase):
+    def test_every_point_in_both_directions(self):
+        source = random.Random(11)
+        for turn in range(60):
+            count = source.randrange(1, 65)
+            outline = [(source.randrange(-32768, 32768), source.randrange(-32768, 32768), source.randrange(256))
+                       for number in range(count)]
+            body = [0x20, ROUND_POINT] + push(1) + [0x60]
+            code = [0x01] + push(0, count, 0) + [0x2A, 0x22, 0x00] + push(0, count, 0) + [0x2A]
+            found = zones(outline, code, dots=source.randrange(1, 257), font_code=function(0, body))[1]
+            for point, (x, y, marks) in zip(found, outline):
+                self.assertEqual(point[0] % 64, 0)
+                self.assertEqual(point[1] % 64, 0)
+                self.assertEqual(point[2], 6 + marks % 2)
+                self.assertLessEqual(max(abs(point[0] - x), abs(point[1] - y)), 32)
+
+
+class Between(unittest.TestCase):
+    def test_in_order_between_two_touched_points(self):
+        source = random.Random(12)
+        for turn in range(200):
+            axis = turn % 2
+            span = source.choice([3, 40, 2000, 32767])
+            places = [source.randrange(-span, span + 1) for number in range(source.randrange(3, 30))]
+            outline = [(0, place, 0) if axis else (place, 0, 0) for place in places]
+            first, second = sorted(source.sample(range(len(places)), 2))
+            moved = sorted(source.randrange(-span, span + 1) for number in range(2))
+            if places[first] > places[second]:
+                moved.reverse()
+            code = ([0x00] if axis else [0x01]) + push(first, moved[0]) + [0x48] + push(second, moved[1]) + [0x48]
+            found = zones(outline, code + [LEAD_Y if axis else LEAD_X], [len(places) - 1])[1]
+            inner = [(old, point[axis]) for old, point in zip(places, found)
+                     if min(places[first], places[second]) <= old <= max(places[first], places[second])]
+            for old, now in inner:
+                self.assertTrue(min(moved) <= now <= max(moved))
+            inner = sorted(inner)
+            for (old, now), (next_old, next_now) in zip(inner, inner[1:]):
+                if old < next_old and places[first] != places[second]:
+                    self.assertLessEqual(now, next_now)
+
+
+class ByFunctions(unittest.TestCase):
+    def test_a_program_and_the_same_as_a_function_come_to_the_same(self):
+        source = random.Random(13)
+        for turn in range(150):
+            code = push(turn % 6) + [ROUND_POINT] + push((turn + 1) % 6) + [0xC0 + turn % 32] + [LEAD_X, LEAD_Y]
+            code += push(source.randrange(6), source.randrange(-500, 500)) + [0x48]
+            others = {"dots": 9, "font_code": function(0, code)}
+            self.assertEqual(zones(OUTLINE, code, [2, 5], **others), zones(OUTLINE, push(0) + [CALL], [2, 5], **others))
+
+
+if __name__ == "__main__":
+    unittest.main()
