@@ -2,7 +2,8 @@
 
 import unittest
 
-from tests.helper import LEAST, MOST, answer_of_shape, fitted, push, stack_behind, zones
+from tests.helper import (LEAST, MOST, answer_of_shape, fitted, init, points, push, shape, size, stack_behind, told,
+                          values, zones)
 
 SET_PLACE = 0x48
 ALL_ZONES = 0x16
@@ -19,6 +20,90 @@ def fault_number(code, outline=FOUR, ends=(3,), **others):
 def twilight(number, place):
     """Code that puts a point of zone 0 on this place of the x axis; afterwards z2 is 1 again."""
     return push(0) + [0x15] + push(number, place) + [SET_PLACE] + push(1) + [0x15]
+
+
+# Of each instruction: what it takes (z0, z1 or z2 for a point of that zone, else a number), and the reference
+# points that it uses, each with its zone.
+USES = (
+    [(byte, ("z1", "z2"), ()) for byte in (0x06, 0x07, 0x08, 0x09, 0x86, 0x87)]
+    + [(byte, ("z2",), ()) for byte in (0x46, 0x47)] + [(0x48, ("z2", 5), ())]
+    + [(byte, ("z0", "z1"), ()) for byte in (0x49, 0x4A)]
+    + [(byte, ("z0",), ()) for byte in (0x29, 0x2E, 0x2F)]
+    + [(byte, ("z0", 0), ()) for byte in (0x3E, 0x3F)]
+    + [(byte, ("z1",), (("r0", "z0"),)) for byte in (0xC0, 0xCC, 0xDF)]
+    + [(byte, ("z1", 0), (("r0", "z0"),)) for byte in (0xE0, 0xEC, 0xFF)]
+    + [(byte, ("z1", 5), (("r0", "z0"),)) for byte in (0x3A, 0x3B)]
+    + [(0x3C, ("z1",), (("r0", "z0"),)), (0x27, ("z1", "z0"), ())]
+    + [(0x39, ("z2",), (("r1", "z0"), ("r2", "z1")))]
+    + [(0x32, ("z2",), (("r2", "z1"),)), (0x33, ("z2",), (("r1", "z0"),))]
+    + [(0x34, (0,), (("r2", "z1"),)), (0x35, (0,), (("r1", "z0"),))]
+    + [(0x36, (1,), (("r2", "z1"),)), (0x37, (1,), (("r1", "z0"),))]
+    + [(0x38, ("z2", 5), ()), (0x0F, ("z2", "z1", "z1", "z0", "z0"), ())]
+    + [(byte, (8, "z0", 1), ()) for byte in (0x5D, 0x71, 0x72)]
+)
+POINTER_BYTES = {"z0": 0x13, "z1": 0x14, "z2": 0x15}
+REFERENCE_BYTES = {"r0": 0x10, "r1": 0x11, "r2": 0x12}
+
+
+class WhichZone(unittest.TestCase):
+    """Zone 0 has three points and zone 1 has one: point 2 is there just where the right pointer says 0."""
+
+    def number(self, pointers, before, code):
+        for pointer in pointers:
+            before = before + push(0) + [POINTER_BYTES[pointer]]
+        return fault_number(before + code, [(5, 6, 0)], (0,), twilight=3, controls=[1])
+
+    def check(self, pointer, before, code, byte):
+        others = [name for name in POINTER_BYTES if name != pointer]
+        self.assertEqual(self.number([pointer], before, code), 0, (hex(byte), pointer))
+        self.assertEqual(self.number(others, before, code), 3, (hex(byte), pointer))
+
+    def test_taken_points(self):
+        for byte, takes, used in USES:
+            for place, pointer in enumerate(takes):
+                if pointer in POINTER_BYTES:
+                    numbers = [0 if number in POINTER_BYTES else number for number in takes]
+                    numbers[place] = 2
+                    self.check(pointer, [], push(*numbers) + [byte], byte)
+
+    def test_reference_points(self):
+        for byte, takes, used in USES:
+            numbers = [0 if number in POINTER_BYTES else number for number in takes]
+            for reference, pointer in used:
+                self.check(pointer, push(2) + [REFERENCE_BYTES[reference]], push(*numbers) + [byte], byte)
+            for reference in REFERENCE_BYTES:
+                if reference not in [name for name, pointer in used]:
+                    code = push(2) + [REFERENCE_BYTES[reference]] + push(*numbers) + [byte]
+                    self.assertEqual(self.number([], [], code), 0, (hex(byte), reference))
+
+    def test_marks_are_of_zone_1(self):
+        for code in (push(2) + [0x80], push(0, 2) + [0x81], push(0, 2) + [0x82]):
+            self.assertEqual(self.number(POINTER_BYTES, [], code), 3)
+
+
+class WhichReference(unittest.TestCase):
+    """r0, r1, r2 are points 0, 1, 2, all at other places, and moved in other ways."""
+
+    LINE = [(1000, 0, 0), (2000, 0, 0), (4000, 0, 0), (5000, 0, 0)]
+    BEGIN = (push(0, 1001) + [SET_PLACE] + push(1, 2010) + [SET_PLACE] + push(2, 4300) + [SET_PLACE]
+             + push(1) + [0x11] + push(2) + [0x12])
+
+    def place(self, code):
+        return fitted(self.LINE, self.BEGIN + code, [3], controls=[700])[3][0]
+
+    def test_each(self):
+        self.assertEqual(self.place(push(3) + [0xC0]), 5001)
+        self.assertEqual(self.place(push(3) + [0xC4]), 1001 + 4032)
+        self.assertEqual(self.place(push(3, 0) + [0xE0]), 1701)
+        self.assertEqual(self.place(push(3, 0) + [0xE4]), 1001 + 4032)
+        self.assertEqual(self.place(push(3, 9) + [0x3A]), 1010)
+        self.assertEqual(self.place(push(3) + [0x3C]), 1001)
+        self.assertEqual(self.place(push(3) + [0x32]), 5300)
+        self.assertEqual(self.place(push(3) + [0x33]), 5010)
+        # From 2000 .. 4000 to 2010 .. 4300.
+        self.assertEqual(self.place(push(3) + [0x39]), 2010 + 3435)
+        self.assertEqual(self.place(push(0) + [0x34]), 5300)
+        self.assertEqual(self.place(push(1) + [0x37]), 5010)
 
 
 class Measuring(unittest.TestCase):
@@ -112,6 +197,14 @@ class SettingPlaces(unittest.TestCase):
         y = ((2 ** 32 - 1) * 13107 * 2 + 9830) // (2 * 9830)
         self.assertEqual(fitted([(0, 0, 0)], code)[0], (MOST, (y + 2 ** 31) % 2 ** 32 - 2 ** 31, 6))
 
+    def test_at_right_angles_by_much(self):
+        code = [0x04] + push(0, 2 ** 30) + [SET_PLACE] + push(1, -2 ** 30) + [SET_PLACE]
+        self.assertEqual(fitted([(0, 0, 0), (0, 0, 0)], code), [(0, 2 ** 30, 4), (0, -2 ** 30, 4)])
+
+    def test_over_the_edge_on_y(self):
+        code = [0x00] + push(0, MOST) + [SET_PLACE] + push(0, 9) + [0x38]
+        self.assertEqual(fitted([(0, 0, 0)], code)[0], (0, LEAST + 8, 4))
+
     def test_ranges(self):
         self.assertEqual(fault_number(push(4, 0) + [SET_PLACE]), 3)
         self.assertEqual(fault_number(push(4) + [SET_PLACE]), 1)
@@ -172,6 +265,12 @@ class Anchoring(unittest.TestCase):
     def test_over_the_edge(self):
         self.assertEqual(fitted([(0, 0, 0)], push(0, MOST) + [SET_PLACE] + push(0) + [0x2F])[0], (LEAST, 0, 2))
 
+    def test_what_is_rounded_is_cut(self):
+        # MOST comes to LEAST: moved by 1 - 2^32, so on y by that times 13107 / 9830.
+        found = fitted([(0, 0, 0)], push(0, MOST) + [SET_PLACE] + SLANT_FREE + push(0) + [0x2F])[0]
+        y = (2 * (1 - 2 ** 32) * 13107 + 9830) // (2 * 9830)
+        self.assertEqual(found, (LEAST, (y + 2 ** 31) % 2 ** 32 - 2 ** 31, 6))
+
     def test_reference_points(self):
         # Then 3C shows r0, 33 r1, and 32 that r2 is still 0.
         for byte in (0x2E, 0x2F):
@@ -203,6 +302,28 @@ class ToControls(unittest.TestCase):
         # The control value is MOST, the place LEAST: 2^32 - 1 apart, not -1.
         code = push(0, MOST) + [0x44] + push(0, LEAST) + [SET_PLACE] + push(0, 0) + [0x3F]
         self.assertEqual(fitted([(0, 0, 0)], code, controls=[0])[0], (LEAST, 0, 2))
+
+    def test_a_control_value_of_font_units_is_cut(self):
+        # Eight times 2^31 - 1 is 2^34 - 8, cut to -8: within the cut-in of a point at 0.
+        code = push(0, MOST) + [0x70] + push(0, 0) + [0x3F]
+        found = told(init(2048), values([0]), size(256), shape([(0, 0, 0)], [], code), points(1))
+        self.assertEqual(found[-1], [0, 1, 0, 0, 2])
+        found = told(init(2048), values([0]), size(256), shape([(0, 0, 0)], [], [0x7A] + code), points(1))
+        self.assertEqual(found[-1], [0, 1, -8, 0, 2])
+
+    def test_a_control_value_that_grew_is_cut(self):
+        # MOST + 8 is LEAST + 7; from LEAST + 94 that is within a cut-in of 100.
+        code = (push(0, MOST) + [0x44] + push(8, 0, 1) + [0x73] + push(100) + [0x1D] + push(0, LEAST + 94)
+                + [SET_PLACE] + push(0, 0) + [0x3F])
+        self.assertEqual(fitted([(0, 0, 0)], code, controls=[0], dots=9)[0], (LEAST, 0, 2))
+
+    def test_in_zone_0_it_is_put_on_both_axes(self):
+        # A point that was at (7, 9) is put at (50, 0).
+        place = push(0) + [ALL_ZONES] + push(1, 7) + [SET_PLACE, 0x00] + push(1, 9) + [SET_PLACE, 0x01]
+        for code in (push(1, 0) + [0x3E], push(1, 0) + [0xE0], push(1, 50) + [0x3A]):
+            self.assertEqual(zones([], place + code, twilight=2, controls=[50])[0][1], (50, 0, 6))
+            code = place + code + push(1) + [0x47, 0x00] + push(1) + [0x47]
+            self.assertEqual(stack_behind(code, twilight=2, controls=[50]), [50, 0])
 
     def test_in_zone_0(self):
         for byte, x in ((0x3E, 50), (0x3F, 64)):
@@ -261,6 +382,20 @@ class ByOriginalDistance(unittest.TestCase):
         self.assertEqual(self.place(0xC0, 5, wide), 90)
         self.assertEqual(self.place(0xC8, 2, push(5, 1000) + [0x1E, 0x1F]), -64)
 
+    def test_a_single_width_at_the_edge(self):
+        # Minus LEAST is cut to LEAST, whose half is - (2^31 + 32), cut.
+        code = [0x19] + push(LEAST, MOST) + [0x1E, 0x1F]
+        self.assertEqual(self.place(0xC4, 2, code), MOST - 31)
+
+    def test_a_distance_just_below_0(self):
+        outline = [(0, 0, 0), (-1, 0, 0)]
+        self.assertEqual(fitted(outline, push(1) + [0xC8])[1][0], -64)
+        self.assertEqual(fitted(outline, push(90, 1000) + [0x1E, 0x1F] + push(1) + [0xC0])[1][0], -90)
+
+    def test_a_single_width_of_0(self):
+        self.assertEqual(self.place(0xC0, 3, push(11) + [0x1E]), 0)
+        self.assertEqual(self.place(0xC0, 3, push(10) + [0x1E]), 10)
+
     def test_a_single_width_below_0(self):
         wide = push(-90, 1000) + [0x1E, 0x1F]
         self.assertEqual(self.place(0xC0, 1, wide), -90)
@@ -277,7 +412,7 @@ class ByOriginalDistance(unittest.TestCase):
     def test_reference_points(self):
         outline = [(0, 0, 0), (100, 0, 0), (300, 0, 0)]
         # Point 0 is moved by 7, point 1 by 9: it is where r0 + 109 would be.
-        for byte, r0 in ((0xC0, 7), (0xD0, 107)):
+        for byte, r0 in ((0xC0, 7), (0xD0, 107), (0xC3, 7), (0xD3, 107)):
             begun = push(0, 7) + [SET_PLACE] + push(1) + [byte]
             self.assertEqual(fitted(outline, begun + push(2) + [0x3C])[2][0], r0)
             # r1 is what r0 was before.
@@ -327,6 +462,20 @@ class ByControlDistance(unittest.TestCase):
                 self.assertEqual(self.place(0xE8 + low, number, control, moved), least)
                 self.assertEqual(self.place(0xEC + low, number, control, moved), both)
 
+    def test_flip_at_0(self):
+        outline = [(0, 0, 0), (0, 0, 0), (-1, 0, 0)]
+        for number, control, x in ((1, 50, 50), (1, -50, 50), (1, -1, 1), (1, 0, 0), (2, 50, -50), (2, 1, -1)):
+            found = fitted(outline, push(number, 0) + [0xE0], controls=[control])
+            self.assertEqual(found[number][0], x, (number, control))
+        # An original distance of 0 is not below 0 for the least distance.
+        self.assertEqual(fitted(outline, push(1, 0) + [0xE8], controls=[100])[1][0], 100)
+        self.assertEqual(fitted(outline, push(1, 0) + [0xE8], controls=[10])[1][0], 64)
+
+    def test_what_is_flipped_is_cut(self):
+        # Minus LEAST is LEAST, more than any cut-in from 100: so it is 100, rounded.
+        code = push(MOST) + [0x1D] + push(0, LEAST) + [0x44] + push(1, 0) + [0xE4]
+        self.assertEqual(fitted(self.LINE, code, controls=[0])[1][0], 128)
+
     def test_flip_off(self):
         self.assertEqual(self.place(0xE0, 1, -120, [0x4E]), -120)
         self.assertEqual(self.place(0xE0, 2, 120, [0x4E]), 120)
@@ -349,6 +498,7 @@ class ByControlDistance(unittest.TestCase):
         code = push(0) + [0x13]
         self.assertEqual(self.place(0xE4, 1, 400, code, twilight=1), 384)
         self.assertEqual(self.place(0xE4, 1, 400), 128)
+        self.assertEqual(self.place(0xE4, 1, 400, push(0) + [0x15], twilight=1), 128)
 
     def test_at_the_edges(self):
         # The control value is LEAST; flipped it is cut to LEAST again.
@@ -378,7 +528,7 @@ class ByControlDistance(unittest.TestCase):
 
     def test_reference_points(self):
         outline = [(0, 0, 0), (100, 0, 0), (300, 0, 0)]
-        for byte, r0 in ((0xE0, 7), (0xF0, 107)):
+        for byte, r0 in ((0xE0, 7), (0xF0, 107), (0xE3, 7), (0xF3, 107)):
             begun = push(0, 7) + [SET_PLACE] + push(1, 0) + [byte]
             self.assertEqual(fitted(outline, begun + push(2) + [0x3C], controls=[100])[2][0], r0)
             begun = push(1) + [0x10] + push(1, 109) + [SET_PLACE] + push(0, 0) + [byte] + push(0, 0) + [SET_PLACE]
@@ -393,6 +543,33 @@ class ByControlDistance(unittest.TestCase):
             self.assertEqual(fault_number(push(0, -1) + [byte], controls=[1]), 3)
             self.assertEqual(fault_number(push(4) + [0x10] + push(0, 0) + [byte], controls=[1]), 3)
             self.assertEqual(fault_number(push(9) + [byte], controls=[1]), 1)
+
+
+class InZone0(unittest.TestCase):
+    def test_what_it_is_put_at_is_cut(self):
+        # r0 stands originally at MOST, p 10 behind it at LEAST + 9; along (0.707, 0.707) that is below 0.
+        for code in (push(1, 10) + [0x3A], push(1, 0) + [0xE0]):
+            code = twilight(0, MOST) + push(0) + [ALL_ZONES] + code + push(1, 1) + [0x0A] + push(1) + [0x47]
+            self.assertEqual(stack_behind(code, twilight=2, controls=[10]),
+                             [((LEAST + 9) * 11585 * 2 + 16384) // 32768])
+
+    def test_on_y_too(self):
+        begin = push(0) + [ALL_ZONES, 0x00] + push(0, MOST) + [SET_PLACE]
+        for code in (push(1, 10) + [0x3A], push(1, 0) + [0xE0]):
+            code = begin + code + push(1, 1) + [0x0A] + push(1) + [0x47]
+            self.assertEqual(stack_behind(code, twilight=2, controls=[10]),
+                             [((LEAST + 9) * 11585 * 2 + 16384) // 32768])
+
+    def test_a_shape_has_the_sizes_points_with_both_places(self):
+        # Point 0 is put at (40, 0) and rounded to (64, 0), point 1 at (0, 90) and to (0, 64).
+        size_code = push(0) + [ALL_ZONES] + push(0, 0) + [0x3F, 0x00] + push(1, 1) + [0x3F]
+        others = {"twilight": 2, "controls": [40, 90], "size_code": size_code}
+        self.assertEqual(zones([], [], **others)[0], [(64, 0, 2), (0, 64, 4)])
+        code = push(0) + [ALL_ZONES]
+        for byte in (0x46, 0x47):
+            for axis in (0x01, 0x00):
+                code += [axis] + push(0) + [byte] + push(1) + [byte]
+        self.assertEqual(stack_behind(code, **others), [64, 0, 0, 64, 40, 0, 0, 90])
 
 
 class ToDistance(unittest.TestCase):
@@ -437,6 +614,11 @@ class Aligning(unittest.TestCase):
         found = fitted(FOUR, push(1) + [0x10] + push(0, 3, 2) + [0x17, 0x3C])
         self.assertEqual(found, [(110, 20, 3), (110, 20, 0), (110, 220, 1), (110, 220, 2)])
         self.assertEqual(fitted(FOUR, [0x00] + push(2) + [0x3C])[2], (110, 20, 5))
+
+    def test_the_distance_is_cut(self):
+        # From LEAST to MOST it is -1: moved by 1 on x, by 1.33 on y.
+        far = push(0, LEAST) + [SET_PLACE] + push(1, MOST) + [SET_PLACE] + SLANT_FREE
+        self.assertEqual(fitted([(0, 0, 0)] * 2, far + push(1) + [0x3C])[1], (LEAST, 1, 6))
 
     def test_zones_of_both(self):
         code = twilight(0, 50) + push(0) + [0x13] + push(1) + [0x3C]
@@ -496,6 +678,13 @@ class InProportion(unittest.TestCase):
         code = push(1) + [0x12] + push(1, LEAST) + [SET_PLACE]
         found = fitted(outline, code + push(2, 3, 2) + [0x17, 0x39])
         self.assertEqual([point[0] for point in found], [0, LEAST, 0, LEAST])
+
+    def test_what_comes_of_it_is_cut_before_moving(self):
+        # 3 * 2^31 is cut to LEAST: from 3 moved by LEAST - 3, on y that times 13107 / 9830.
+        outline = [(0, 0, 0), (1, 0, 0), (3, 0, 0)]
+        code = push(1) + [0x12] + push(1, LEAST) + [SET_PLACE] + SLANT_FREE + push(2) + [0x39]
+        y = (2 * (LEAST - 3) * 13107 + 9830) // (2 * 9830)
+        self.assertEqual(fitted(outline, code)[2], (LEAST, (y + 2 ** 31) % 2 ** 32 - 2 ** 31, 6))
 
     def test_zones(self):
         # r1 of z0, r2 of z1, points of z2.
@@ -627,6 +816,17 @@ class Crossing(unittest.TestCase):
         self.assertEqual(self.crossing((0, 0), (-10, 0), (0, -5), (-11, -5)), (-6, -3))
         self.assertEqual(self.crossing((7, 7), (7, 7), (1, 2), (3, 9)), (4, 6))
 
+    def test_the_middle_counts_all_four(self):
+        self.assertEqual(self.crossing((1, 10), (2, 20), (103, 130), (107, 170)), (53, 82))
+        self.assertEqual(self.crossing((-1, -10), (-2, -20), (-103, -130), (-107, -170)), (-54, -83))
+
+    def test_the_place_is_cut(self):
+        # They meet at -32768 + 65535 * 65535 on the one axis.
+        self.assertEqual(self.crossing((0, -32768), (32767, -32768), (-32768, 32767), (32767, 32766)),
+                         (-163839, -32768))
+        self.assertEqual(self.crossing((-32768, 0), (-32768, 32767), (32767, -32768), (32766, 32767)),
+                         (-32768, -163839))
+
     def test_far_away(self):
         # What stands in the formula is not cut, though it needs more than 32 bits.
         self.assertEqual(self.crossing((-30000, -30000), (30000, 30000), (-30000, 30000), (30000, -30000)), (0, 0))
@@ -732,6 +932,10 @@ class LedAlong(unittest.TestCase):
         places = self.moved([(0, LEAST), (2, MOST)])[0]
         # The middle of 2^32 - 1, to the greater: LEAST + 2^31 = 0.
         self.assertEqual(places[1], 0)
+
+    def test_over_the_edge_beside_two(self):
+        self.assertEqual(self.moved([(0, LEAST), (2, MOST)])[0][3], LEAST + 49)
+        self.assertEqual(self.moved([(0, LEAST), (2, MOST)])[0][5], MOST - 19)
 
     def test_zones_of_the_state_count_for_nothing(self):
         code = push(0, 10) + [SET_PLACE] + push(0) + [ALL_ZONES, 0x31]

@@ -179,7 +179,8 @@ class Reckoning(Stacks):
     def test_division_goes_toward_0(self):
         self.check_all(0x62, [(1, 3, 21), (-1, 3, -21), (1, -3, -21), (-1, -3, 21), (0, 5, 0), (128, 64, 128),
                               (1, 128, 0), (-1, 128, 0), (64, 1, 4096), (MOST, 1, -64), (LEAST, -1, 0),
-                              (LEAST, 64, LEAST), (LEAST, -64, LEAST), (MOST, 64, MOST), (MOST, LEAST, -63)])
+                              (LEAST, 64, LEAST), (LEAST, -64, LEAST), (MOST, 64, MOST), (MOST, LEAST, -63),
+                              (5, -1, -320), (-5, -1, 320)])
 
     def test_division_by_0(self):
         self.assertEqual(fault_number(push(5, 0) + [0x62]), 8)

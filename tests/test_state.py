@@ -214,6 +214,16 @@ class Rounding(unittest.TestCase):
         self.check(self.by(0x76, 0xC8), [(31, 0), (32, 64)])
         self.check(self.by(0x76, 0xC0), [(0, 0), (1, 64), (64, 64), (65, 128)])
 
+    def test_choices_of_a_period_go_by_bits_6_and_7(self):
+        # i is 15 and j is 3 in each: three quarters for a phase, 11 eighths for a threshold.
+        self.check(self.by(0x76, 0x3F), [(0, 24), (11, 24), (12, 56)])
+        self.check(self.by(0x76, 0x7F), [(0, 48), (23, 48), (24, 112)])
+        self.check(self.by(0x76, 0xBF), [(0, 96), (47, 96), (48, 224)])
+        self.check(self.by(0x76, 0xFF), [(0, 48), (23, 48), (24, 112)])
+        # i and j are 0 in each.
+        self.check(self.by(0x76, 0x40), [(0, 0), (1, 64), (64, 64), (65, 128)])
+        self.check(self.by(0x76, 0x80), [(0, 0), (1, 128), (128, 128), (129, 256)])
+
     def test_thresholds(self):
         # Period 64: (i - 4) / 8 of it.
         self.check(self.by(0x76, 0x41), [(0, 0), (87, 0), (88, 64), (151, 64), (152, 128), (-87, 0), (-88, -64)])
