@@ -2,7 +2,8 @@
 
 from gridfit.carry import fault_of
 from gridfit.ground import ground_for_shape, new_ground
-from gridfit.reckon import scaled
+from gridfit.reckon import along, scaled, unit
+from gridfit.rounding import BY_BYTE_ACROSS, OFF, rounded
 from gridfit.run import FONT, SHAPE, SIZE, Run
 from gridfit.zones import Point
 
@@ -12,6 +13,11 @@ DONE = 0
 OUT_OF_BOUNDS = -1
 NOT_THE_TIME = -2
 PROGRAM_FAULT = -5
+
+CELLS = 0
+CONTROLS = 1
+OLD_X = 2
+OLD_Y = 3
 
 
 class Calls:
@@ -162,7 +168,67 @@ def call_points(machine, calls):
     return told
 
 
-CALLS = {0: call_init, 1: call_values, 2: call_font, 3: call_size, 4: call_shape, 5: call_points}
+def count_to_get(machine, what):
+    # Asked of the machine and not of its size: a number out of bounds is refused as such without a size too.
+    if what == CELLS:
+        return machine.cell_count
+    if what == CONTROLS:
+        return len(machine.told_controls)
+    return machine.point_count
+
+
+def number_of_size(size, what, number):
+    if what == CELLS:
+        return size.cells[number]
+    if what == CONTROLS:
+        return size.controls[number]
+    return size.twilight[number].old[what - OLD_X]
+
+
+def call_get(machine, calls):
+    what = calls.read_number()
+    number = calls.read_number()
+    if what > OLD_Y or number >= count_to_get(machine, what):
+        return [OUT_OF_BOUNDS]
+    if machine.size is None:
+        return [NOT_THE_TIME]
+    return [DONE, number_of_size(machine.size, what, number)]
+
+
+def call_state(machine, calls):
+    size = machine.size
+    if size is None:
+        return [NOT_THE_TIME]
+    kept = size.kept
+    seven = [kept.least, kept.cut_in, kept.width, kept.width_cut_in, kept.delta_base, kept.delta_shift, kept.flip]
+    return [DONE] + seven + [size.still, size.plain, size.dots]
+
+
+def call_unit(machine, calls):
+    x = calls.read_number()
+    y = calls.read_number()
+    return [DONE] + list(unit(x, y))
+
+
+def call_rounded(machine, calls):
+    how = calls.read_number()
+    byte = calls.read_number() % 256
+    number = calls.read_number()
+    return [DONE, rounded(OFF if how > BY_BYTE_ACROSS else how, byte, number)]
+
+
+def call_along(machine, calls):
+    vector_x = calls.read_number()
+    vector_y = calls.read_number()
+    x = calls.read_number()
+    y = calls.read_number()
+    return [DONE, along((vector_x, vector_y), x, y)]
+
+
+CALLS = {
+    0: call_init, 1: call_values, 2: call_font, 3: call_size, 4: call_shape, 5: call_points,
+    6: call_get, 7: call_state, 8: call_unit, 9: call_rounded, 10: call_along,
+}
 
 
 def answers(calls):

@@ -35,6 +35,26 @@ def points(zone):
     return [5, zone]
 
 
+def get(what, i):
+    return [6, what, i]
+
+
+def state():
+    return [7]
+
+
+def unit(x, y):
+    return [8, x, y]
+
+
+def rounded(how, byte, d):
+    return [9, how, byte, d]
+
+
+def along(vx, vy, x, y):
+    return [10, vx, vy, x, y]
+
+
 def told(*calls):
     """The answer of each call, as lists."""
     rest = answers([number for call in calls for number in call])

@@ -1,4 +1,4 @@
-"""The six calls: what they answer, their bounds, and what a refusal leaves."""
+"""The calls that change an object, and points: what they answer, their bounds, and what a refusal leaves."""
 
 import unittest
 

@@ -1,10 +1,11 @@
-"""The document's promises, over many programs: 1, 2, 3 and 5."""
+"""The document's five promises, over many programs."""
 
 import random
 import unittest
 
 from gridfit.machine import answers
-from tests.helper import CALL, function, points, push, setting, shape, size, told, zones
+from tests.helper import (CALL, LEAST, MOST, along, fitted, function, points, push, rounded, setting, shape, size,
+                          stack_behind, told, unit, zones)
 
 ROUND_POINT, LEAD_Y, LEAD_X = 0x2F, 0x30, 0x31
 OUTLINE = [(13, -7, 1), (200, 55, 0), (321, 400, 1), (-90, 333, 0), (5, 5, 1), (77, -300, 1)]
@@ -102,6 +103,97 @@ class TheSame(unittest.TestCase):
             first = answers(calls)
             self.assertEqual(calls, before)
             self.assertEqual(answers(calls), first)
+
+
+EDGES = [0, 1, -1, 31, 32, 33, -32, 63, 64, -64, 16384, -16384, 32767, -32768, 65536, MOST, MOST - 31, LEAST, LEAST + 1]
+
+
+def any_number(source):
+    if source.randrange(3) == 0:
+        return source.choice(EDGES)
+    most = 2 ** source.choice([3, 8, 14, 22, 31])
+    return source.randrange(-most, most)
+
+
+def with_sign_of_16(number):
+    return (number + 32768) % 65536 - 32768
+
+
+class WhatProgramsReckonBy(unittest.TestCase):
+    """The calls unit, rounded and along against programs that come to the same with the same numbers."""
+
+    # What brings each way of rounding about; those by a byte take it from the stack.
+    WAYS = [0x19, 0x18, 0x3D, 0x7D, 0x7C, 0x7A, 0x76, 0x77]
+
+    def told_number(self, call):
+        return told(call)[0][1]
+
+    def place_both(self, number, x, y):
+        """Code that brings a point of zone 1 to any place of 32 bits."""
+        return [0x01] + push(number, x) + [0x48, 0x00] + push(number, y) + [0x48, 0x01]
+
+    def test_unit_of_vectors_set_by_numbers_and_given_back(self):
+        source = random.Random(15)
+        for turn in range(150):
+            x, y = any_number(source), any_number(source)
+            wanted = told(unit(with_sign_of_16(x), with_sign_of_16(y)))[0][1:]
+            for set_vector, give_vector in ((0x0A, 0x0C), (0x0B, 0x0D)):
+                self.assertEqual(stack_behind(push(x, y) + [set_vector, give_vector]), wanted, (x, y))
+
+    def test_unit_of_vectors_set_by_points_and_given_back(self):
+        source = random.Random(16)
+        for turn in range(150):
+            x, y = any_number(source), any_number(source)
+            # The other point stands at (0, 0), so the difference is this one's place.
+            begun = self.place_both(0, x, y) + push(0, 1)
+            plain, turned = told(unit(x, y))[0][1:], told(unit(-y, x))[0][1:] if y > LEAST else None
+            for set_vector, give_vector, wanted in ((0x06, 0x0C, plain), (0x08, 0x0D, plain), (0x86, 0x0C, plain),
+                                                    (0x07, 0x0C, turned), (0x09, 0x0D, turned), (0x87, 0x0C, turned)):
+                if wanted is not None:
+                    self.assertEqual(stack_behind(begun + [set_vector, give_vector]), wanted, (x, y, set_vector))
+
+    def test_rounded_on_the_stack_in_each_way(self):
+        source = random.Random(17)
+        for turn in range(480):
+            how, byte, number = turn % 8, source.randrange(-300, 300), any_number(source)
+            begun = (push(byte) if how > 5 else []) + [self.WAYS[how]] + push(number)
+            wanted = self.told_number(rounded(how, byte % 256, number))
+            self.assertEqual(stack_behind(begun + [0x68 + turn % 4]), [wanted], (how, byte, number))
+            self.assertEqual(stack_behind(begun + [0x56]), [wanted // 64 % 2], (how, byte, number))
+            self.assertEqual(stack_behind(begun + [0x57]), [1 - wanted // 64 % 2], (how, byte, number))
+
+    def test_rounded_places_of_points_in_each_way(self):
+        source = random.Random(18)
+        for turn in range(160):
+            how, byte, x = turn % 8, source.randrange(256), source.randrange(-32768, 32768)
+            way = (push(byte) if how > 5 else []) + [self.WAYS[how]]
+            wanted = self.told_number(rounded(how, byte, x))
+            self.assertEqual(fitted([(x, 5, 1)], way + push(0) + [ROUND_POINT]), [(wanted, 5, 3)])
+            # A point's distance from another at 0, and a control value's, that is far from any cut-in.
+            self.assertEqual(fitted([(0, 0, 0), (x, 5, 1)], way + push(1) + [0xC4])[1], (wanted, 5, 3))
+            found = fitted([(0, 0, 0), (x, 5, 1)], way + push(MOST) + [0x1D, 0x4E] + push(1, 0) + [0xE4], controls=[x])
+            self.assertEqual(found[1], (wanted, 5, 3))
+
+    def test_along_a_vector_a_points_coordinate(self):
+        source = random.Random(19)
+        for turn in range(200):
+            x, y = any_number(source), any_number(source)
+            vector = [source.randrange(-32768, 32768), source.randrange(-32768, 32768)]
+            code = self.place_both(0, x, y) + push(*vector) + [0x0A]
+            wanted = self.told_number(along(*told(unit(*vector))[0][1:], x, y))
+            self.assertEqual(stack_behind(code + push(0) + [0x46]), [wanted], (vector, x, y))
+            # The same as a distance from the point 1 at (0, 0).
+            self.assertEqual(stack_behind(code + push(0, 1) + [0x49]), [wanted], (vector, x, y))
+
+    def test_along_a_vector_an_original_coordinate(self):
+        source = random.Random(20)
+        for turn in range(100):
+            x, y = source.randrange(-32768, 32768), source.randrange(-32768, 32768)
+            vector = [source.randrange(-32768, 32768), source.randrange(-32768, 32768)]
+            code = self.place_both(0, 7, 7) + push(*vector) + [0x0A]
+            wanted = self.told_number(along(*told(unit(*vector))[0][1:], x, y))
+            self.assertEqual(stack_behind(code + push(0) + [0x47], [(x, y, 1)]), [wanted], (vector, x, y))
+            self.assertEqual(stack_behind(code + push(0, 1) + [0x4A], [(x, y, 1)]), [wanted], (vector, x, y))
 
 
 class OnTheGrid(unittest.TestCase):
