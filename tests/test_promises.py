@@ -4,8 +4,8 @@ import random
 import unittest
 
 from gridfit.machine import answers
-from tests.helper import (CALL, LEAST, MOST, along, fitted, function, points, push, rounded, setting, shape, size,
-                          stack_behind, told, unit, zones)
+from tests.helper import (CALL, LEAST, MOST, along, fitted, function, get, points, push, rounded, setting, shape, size,
+                          stack_behind, state, told, unit, zones)
 
 ROUND_POINT, LEAD_Y, LEAD_X = 0x2F, 0x30, 0x31
 OUTLINE = [(13, -7, 1), (200, 55, 0), (321, 400, 1), (-90, 333, 0), (5, 5, 1), (77, -300, 1)]
@@ -19,6 +19,11 @@ def any_bytes(source, likely):
     for place in range(source.randrange(25)):
         code += [0xB2] + [source.randrange(6) for number in range(3)] + [source.randrange(256)]
     return code
+
+
+def all_of_a_size(count):
+    """Asks for all that a size has, with so many cells, control values and points."""
+    return [state()] + [get(what, i) for what in range(4) for i in range(count)]
 
 
 class Ending(unittest.TestCase):
@@ -55,7 +60,8 @@ class Ending(unittest.TestCase):
             wild = any_bytes(source, turn % 4 > 0)
             begun = setting(dots=9, twilight=4, cells=4, controls=[5, 60, -70, 800], font_code=function(0, []))
             begun += [shape(OUTLINE, [2, 5], push(0) + [ROUND_POINT])]
-            after = [points(0), points(1), shape(OUTLINE, [2, 5], push(1) + [0xC8, 0x31]), points(1), points(0)]
+            after = [points(0), points(1), *all_of_a_size(4)]
+            after += [shape(OUTLINE, [2, 5], push(1) + [0xC8, 0x31]), points(1), points(0)]
             for call in (size(9, wild), shape(OUTLINE, [2, 5], wild)):
                 found = told(*begun, call, *after)
                 if found[5][0] != 0:
@@ -92,6 +98,8 @@ class TheSame(unittest.TestCase):
             self.assertEqual(told(*begun, before, *asked)[5:6], told(*begun, *asked)[4:5])
             if told(*begun, *asked)[4] == [0]:
                 self.assertEqual(told(*begun, before, *asked)[5:], told(*begun, *asked)[4:])
+            sizes = all_of_a_size(3)
+            self.assertEqual(told(*begun, before, *asked, *sizes)[8:], told(*begun, *sizes)[4:])
 
     def test_the_list_and_its_answers(self):
         source = random.Random(10)
